@@ -574,6 +574,7 @@ func refuseCrash(t *testing.T, d impl.Disk, kept []int, torn int, bytes int) {
 	t.Helper()
 	crashed, ok := impl.CrashDisk(d, kept, torn, bytes)
 	refuse(t, "CrashDisk", isNoDisk, crashed, ok, d, kept, torn, bytes)
+	refuseCrashLog(t, d, kept, torn, bytes)
 }
 
 // refuseDisk gives the disk to every function that takes one, with arguments that are valid otherwise.
@@ -596,6 +597,7 @@ func refuseDisk(t *testing.T, d impl.Disk) {
 	}
 	all, ok := impl.ReadAll(d)
 	refuse(t, "ReadAll", isNoText, all, ok, d)
+	refuseLog(t, d)
 }
 
 func TestDisksWithOtherNumbersOfSectorsAreRefused(t *testing.T) {
